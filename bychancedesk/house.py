@@ -1,4 +1,7 @@
-"""A house of states and acts: the best chance and the best cost of coming to a wanted state, told exactly."""
+"""A house of states and acts: how likely a wanted state is come to at best, what it costs at least, and by what rule.
+
+All of it is told exactly, as fractions of whole numbers.
+"""
 
 MOST_STATES = 6
 MOST_ACTS = 12
@@ -14,6 +17,9 @@ BEGINS = 0
 ACT = 1
 CHANCE = 2
 COST = 3
+LIKELY = 4
+CHEAP = 5
+JUDGE = 6
 
 
 class NoSuchCall(Exception):
@@ -23,7 +29,8 @@ class NoSuchCall(Exception):
 class Act:
     """What may be done in one state; weights tells of each state that it may lead to its weight."""
 
-    def __init__(self, state, price, weights):
+    def __init__(self, number, state, price, weights):
+        self.number = number
         self.state = state
         self.price = price
         self.weights = weights
@@ -127,6 +134,11 @@ class Search:
                 better[act.state] = act
         return better
 
+    def best_acts(self, values):
+        """The acts, of states that aren't wanted, that are worth just what their state is."""
+        acting = [act for act in self.acts if act.state not in self.wanted]
+        return [act for act in acting if self.worth(act, values) == act.whole * values.tops[act.state]]
+
     def worth(self, act, values):
         """What the act is worth where these values are come to, times its whole weight and their bottom."""
         later = sum([weight * values.tops[state] for state, weight in act.weights.items()])
@@ -154,39 +166,79 @@ class House:
             return [FULL]
         if state >= self.many or price < 1 or price > MOST_COST or not leads_fit(leads, self.many):
             return [WRONG]
-        self.acts.append(Act(state, price, dict(zip(leads[0::2], leads[1::2]))))
-        return [len(self.acts) - 1]
+        number = len(self.acts)
+        self.acts.append(Act(number, state, price, dict(zip(leads[0::2], leads[1::2]))))
+        return [number]
 
     def chance(self, state):
         if state >= self.many:
             return [NO_STATE]
-        chances = self.best_chances()
-        return [0] + lowest_terms(chances.tops[state], chances.bottom)
+        return [0] + self.best_chance(self.acts, state)
 
     def cost(self, state):
         if state >= self.many:
             return [NO_STATE]
-        sure = self.sure_states()
-        if state not in sure:
+        if self.best_chance(self.acts, state) != [1, 1]:
             return [NOT_SURE]
-        gains = self.best_gains(sure)
-        return [0] + lowest_terms(0 - gains.tops[state], gains.bottom)
+        return [0] + self.best_cost(self.acts, state)
 
-    def best_chances(self):
-        return Search(self.many, self.wanted, self.acts, 1, 0).best_values()
+    def likely(self):
+        """Among the acts that are as good as can be, a rule that goes nearer level by level.
 
-    def sure_states(self):
-        chances = self.best_chances()
-        return [state for state in range(self.many) if chances.tops[state] == chances.bottom]
+        A state of the best chance 0 gets no act by it, since none of its acts may lead to a state with a level.
+        """
+        search = self.chance_search(self.acts)
+        good = search.best_acts(search.best_values())
+        return told_rule(self.chance_search(good).first_rule())
 
-    def best_gains(self, sure):
-        """The best costs of the sure states, below 0.
+    def cheap(self):
+        search = self.cost_search(self.acts)
+        rule = {}
+        for act in search.best_acts(search.best_values()):
+            rule.setdefault(act.state, act)
+        return told_rule(rule)
+
+    def judge(self, state, rule):
+        """The best of a house that has the rule's acts alone: there a way can only go by the rule, or stop."""
+        if state >= self.many:
+            return [NO_STATE]
+        if len(rule) % 2 != 0:
+            return [WRONG]
+        acts = self.acts_of(rule)
+        likelihood = self.best_chance(acts, state)
+        if likelihood != [1, 1]:
+            return [0] + likelihood
+        return [1] + likelihood + self.best_cost(acts, state)
+
+    def acts_of(self, rule):
+        """The acts that the rule does; what else it tells is no act of that state, or told too late."""
+        first = {}
+        for state, number in zip(rule[0::2], rule[1::2]):
+            first.setdefault(state, number)
+        return [act for act in self.acts if first.get(act.state) == act.number]
+
+    def best_chance(self, acts, state):
+        chances = self.chance_search(acts).best_values()
+        return lowest_terms(chances.tops[state], chances.bottom)
+
+    def best_cost(self, acts, state):
+        """The best cost by these acts from a state from which they can make it sure."""
+        gains = self.cost_search(acts).best_values()
+        return lowest_terms(0 - gains.tops[state], gains.bottom)
+
+    def chance_search(self, acts):
+        return Search(self.many, self.wanted, acts, 1, 0)
+
+    def cost_search(self, acts):
+        """Looks for the best costs of the sure states, below 0.
 
         A sure way never does an act that may lead to a state that isn't sure; by all other acts it's sure
         to come to what's wanted as long as each state's act may lead nearer.
         """
-        acts = [act for act in self.acts if act.leads_only_to(sure)]
-        return Search(self.many, self.wanted, acts, 0, -1).best_values()
+        chances = self.chance_search(acts).best_values()
+        sure = [state for state in range(self.many) if chances.tops[state] == chances.bottom]
+        safe = [act for act in acts if act.leads_only_to(sure)]
+        return Search(self.many, self.wanted, safe, 0, -1)
 
 
 class Tape:
@@ -199,12 +251,12 @@ class Tape:
     def has_more(self):
         return self.place < len(self.calls)
 
-    def number(self):
+    def take(self):
         self.place = self.place + 1
         return self.calls[self.place - 1]
 
-    def row(self):
-        size = self.number()
+    def take_row(self):
+        size = self.take()
         self.place = self.place + size
         return self.calls[self.place - size:self.place]
 
@@ -254,19 +306,35 @@ def lowest_terms(top, bottom):
     return [top // common, bottom // common]
 
 
+def told_rule(rule):
+    """For how many states the rule tells an act, then each of them and the act's number."""
+    told = [len(rule)]
+    for state in sorted(rule):
+        told.append(state)
+        told.append(rule[state].number)
+    return told
+
+
 def answer_next(house, tape):
-    call = tape.number()
+    call = tape.take()
     if call == BEGINS:
-        many = tape.number()
-        return house.begins(many, tape.row())
+        many = tape.take()
+        return house.begins(many, tape.take_row())
     if call == ACT:
-        state = tape.number()
-        price = tape.number()
-        return house.act(state, price, tape.row())
+        state = tape.take()
+        price = tape.take()
+        return house.act(state, price, tape.take_row())
     if call == CHANCE:
-        return house.chance(tape.number())
+        return house.chance(tape.take())
     if call == COST:
-        return house.cost(tape.number())
+        return house.cost(tape.take())
+    if call == LIKELY:
+        return house.likely()
+    if call == CHEAP:
+        return house.cheap()
+    if call == JUDGE:
+        state = tape.take()
+        return house.judge(state, tape.take_row())
     raise NoSuchCall(f"{call}")
 
 

@@ -24,6 +24,18 @@ def cost(state):
     return [3, state]
 
 
+def likely():
+    return [4]
+
+
+def cheap():
+    return [5]
+
+
+def judge(state, *rule):
+    return [6, state, len(rule), *rule]
+
+
 def line(calls):
     return [number for call in calls for number in call]
 
@@ -49,6 +61,12 @@ def last(*calls):
     return ask(*calls)[-1]
 
 
+def rule_numbers(told):
+    """What likely or cheap answered, as judge takes a rule."""
+    assert len(told) == 1 + 2 * told[0]
+    return told[1:]
+
+
 def solve(rows):
     """The one solution of the equations, by fractions."""
     rows = [[Fraction(number) for number in row] for row in rows]
@@ -69,28 +87,34 @@ class SlowHouse:
 
     def __init__(self):
         self.many, self.wanted, self.acts = 1, [], []
+        self.known = {}
 
     def answer(self, call):
-        kind = call[0]
+        kind, numbers = call[0], call[1:]
         if kind == 0:
-            return self.begins(call[1], call[3:])
+            return self.begins(numbers[0], numbers[2:])
         if kind == 1:
-            return self.act(call[1], call[2], call[4:])
-        if call[1] >= self.many:
+            return self.act(numbers[0], numbers[1], numbers[3:])
+        if kind == 4:
+            return self.told(self.likely())
+        if kind == 5:
+            return self.told(self.cheap())
+        if numbers[0] >= self.many:
             return [-2]
-        best = self.best_chance(call[1])
+        if kind == 6:
+            return self.judge(numbers[0], numbers[2:])
         if kind == 2:
-            return [0, best.numerator, best.denominator]
-        if best != 1:
+            return [0, *self.best_chances()[numbers[0]].as_integer_ratio()]
+        if self.best_chances()[numbers[0]] != 1:
             return [-6]
-        least = self.best_cost(call[1])
-        return [0, least.numerator, least.denominator]
+        return [0, *self.best_costs()[numbers[0]].as_integer_ratio()]
 
     def begins(self, many, wanted):
         there = all(state in range(many) for state in wanted)
         if many not in range(1, 7) or wanted != sorted(set(wanted)) or not there:
             return [-1]
         self.many, self.wanted, self.acts = many, wanted, []
+        self.known = {}
         return [0]
 
     def act(self, state, price, leads):
@@ -102,6 +126,7 @@ class SlowHouse:
                 or not all(weight in range(1, 21) for weight in weights)):
             return [-1]
         whole = sum(weights)
+        self.known = {}
         self.acts.append((state, price, {one: Fraction(weight, whole) for one, weight in zip(states, weights)}))
         return [len(self.acts) - 1]
 
@@ -142,14 +167,66 @@ class SlowHouse:
         found = dict(zip(acting, solve(rows)))
         return [found.get(state, Fraction(0)) for state in range(self.many)]
 
-    def best_chance(self, state):
-        return max(self.rule_chances(rule)[state] for rule in self.rules())
+    def best_chances(self):
+        if "chances" not in self.known:
+            self.known["chances"] = [max(own) for own in zip(*map(self.rule_chances, self.rules()))]
+        return self.known["chances"]
 
-    def best_cost(self, state):
-        costs = []
-        for rule in self.rules():
-            chances = self.rule_chances(rule)
-            if chances[state] == 1:
-                sure = [one for one in range(self.many) if chances[one] == 1]
-                costs.append(self.rule_costs(rule, sure)[state])
-        return min(costs)
+    def best_costs(self):
+        """Of each state the least cost of the rules that are sure from there, None where there's no such rule."""
+        if "costs" not in self.known:
+            found = [[] for state in range(self.many)]
+            for rule in self.rules():
+                chances = self.rule_chances(rule)
+                sure = [state for state in range(self.many) if chances[state] == 1]
+                costs = self.rule_costs(rule, sure)
+                for state in sure:
+                    found[state].append(costs[state])
+            self.known["costs"] = [min(own, default=None) for own in found]
+        return self.known["costs"]
+
+    def likely(self):
+        best = self.best_chances()
+        good = []
+        for number, (state, price, shares) in enumerate(self.acts):
+            mean = sum(share * best[one] for one, share in shares.items())
+            if mean == best[state] != 0:
+                good.append(number)
+        levels = {state: 0 for state in self.wanted}
+        for level in range(1, self.many + 1):
+            for number in good:
+                state, price, shares = self.acts[number]
+                if state not in levels and any(levels.get(one, level) < level for one in shares):
+                    levels[state] = level
+        rule = {}
+        for number in reversed(good):
+            state, price, shares = self.acts[number]
+            if levels[state] > 0 and any(levels[state] > levels.get(one, self.many) for one in shares):
+                rule[state] = number
+        return rule
+
+    def cheap(self):
+        chances, costs = self.best_chances(), self.best_costs()
+        rule = {}
+        for number, (state, price, shares) in reversed(list(enumerate(self.acts))):
+            if state not in self.wanted and chances[state] == 1 and all(chances[one] == 1 for one in shares):
+                if price + sum(share * costs[one] for one, share in shares.items()) == costs[state]:
+                    rule[state] = number
+        return rule
+
+    def told(self, rule):
+        return [len(rule), *[number for pair in sorted(rule.items()) for number in pair]]
+
+    def judge(self, state, numbers):
+        if len(numbers) % 2 == 1:
+            return [-1]
+        rule = [None] * self.many
+        for one in range(self.many):
+            told = [number for where, number in zip(numbers[0::2], numbers[1::2]) if where == one]
+            if one not in self.wanted and told and told[0] < len(self.acts) and self.acts[told[0]][0] == one:
+                rule[one] = self.acts[told[0]]
+        chances = self.rule_chances(rule)
+        if chances[state] != 1:
+            return [0, *chances[state].as_integer_ratio()]
+        sure = [one for one in range(self.many) if chances[one] == 1]
+        return [1, 1, 1, *self.rule_costs(rule, sure)[state].as_integer_ratio()]

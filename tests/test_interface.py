@@ -4,11 +4,13 @@ import io
 import sys
 import unittest
 
-from bychancedesk.house import answers
-from tests.helper import LARGEST, act, begins, chance, cost, line
+from bychancedesk.house import NoSuchCall, answers
+from tests.helper import LARGEST, act, begins, chance, cheap, cost, judge, likely, line
 
 LINE = line([begins(4, [3]), act(0, 1, 1, 1, 3, 2), act(1, 5, 0, 1, 2, 1), act(2, 7, 3, 1), act(9, 1, 1, 1),
-             chance(0), cost(0), cost(1), chance(7), begins(2, [1, 0]), begins(3, [0]), cost(1), cost(0)])
+             chance(0), cost(0), cost(1), chance(7), likely(), cheap(), judge(0, 0, 0, 1, 1, 2, 2), judge(0, 0, 0),
+             act(0, 2, 3, 1), likely(), cheap(), judge(0, 0, 3), judge(4, 0), judge(1, 0), begins(2, [1, 0]),
+             begins(3, [0]), cost(1), cost(0), cheap(), judge(0, LARGEST, LARGEST)])
 
 
 class Untouched(list):
@@ -29,16 +31,30 @@ class Layout(unittest.TestCase):
     def test_rows_of_no_and_of_twenty_numbers(self):
         calls = [0, 1, 0, 1, 0, 1, 0, 0, 6, 20, *range(20), 1, 0, 1, 20, *[LARGEST] * 20, 2, 0]
         self.assertEqual(answers(calls), [1, 0, 1, -1, 1, -1, 1, -1, 3, 0, 0, 1])
+        calls = [0, 1, 1, 0, 6, 0, 0, 6, 0, 20, *[LARGEST] * 20, 6, 1, 20, *range(20), 4]
+        self.assertEqual(answers(calls), [1, 0, 5, 1, 1, 1, 0, 1, 5, 1, 1, 1, 0, 1, 1, -2, 1, 0])
+
+    def test_rules_and_what_is_judged(self):
+        calls = [0, 4, 1, 3, 1, 1, 5, 4, 1, 1, 3, 2, 1, 0, 6, 4, 1, 1, 2, 1, 4, 5, 6, 0, 4, 0, 1, 1, 0, 6, 1, 2, 1, 0,
+                 6, 4, 1, 0, 6, 0, 1, 0]
+        self.assertEqual(answers(calls), [1, 0, 1, 0, 1, 1, 5, 2, 0, 1, 1, 0, 3, 1, 1, 0, 3, 0, 1, 2,
+                                          5, 1, 1, 1, 15, 2, 1, -2, 1, -1])
 
     def test_numbers_within_a_row_are_no_calls(self):
         calls = [0, 4, 4, 0, 1, 2, 3, 1, 2, 3, 6, 0, 1, 1, 2, 2, 3, 2, 3]
         self.assertEqual(answers(calls), [1, 0, 1, 0, 3, 0, 1, 1])
+        self.assertEqual(answers([6, 0, 6, 4, 5, 6, 0, 2, 0, 5, 4]), [3, 0, 0, 1, 1, 0, 1, 0])
 
     def test_one_call(self):
         self.assertEqual(answers([2, 0]), [3, 0, 0, 1])
         self.assertEqual(answers([2, LARGEST]), [1, -2])
         self.assertEqual(answers([3, 0]), [1, -6])
         self.assertEqual(answers([3, LARGEST]), [1, -2])
+        self.assertEqual(answers([4]), [1, 0])
+        self.assertEqual(answers([5]), [1, 0])
+        self.assertEqual(answers([6, 0, 0]), [3, 0, 0, 1])
+        self.assertEqual(answers([6, LARGEST, 0]), [1, -2])
+        self.assertEqual(answers([6, 0, 1, LARGEST]), [1, -1])
         self.assertEqual(answers([0, LARGEST, 0]), [1, -1])
         self.assertEqual(answers([1, LARGEST, LARGEST, 0]), [1, -1])
 
@@ -50,6 +66,10 @@ class Layout(unittest.TestCase):
         told = answers(LINE)
         self.assertIs(type(told), list)
         self.assertEqual({type(number) for number in told}, {int})
+
+    def test_no_other_call(self):
+        with self.assertRaises(NoSuchCall):
+            answers([7])
 
 
 class NothingElse(unittest.TestCase):
@@ -91,10 +111,16 @@ class NothingElse(unittest.TestCase):
         finally:
             sys.stdin = kept
 
+    def test_imports_nothing(self):
+        before = set(sys.modules)
+        answers(LINE)
+        self.assertEqual(set(sys.modules), before)
+
     def test_the_longest_line_nests_few_calls(self):
         acts = [act(0, 100, 0, 20, 1, 1)] + [act(state, 100, 0, 20, state + 1, 1) for state in range(1, 5)]
         acts += [act(state, 99, 0, 1, 1, 1, 2, 1, 3, 1, 4, 1, 5, 1) for state in range(5)] + [act(0, 1, *[0] * 20)]
-        calls = [begins(6, [5]), *acts, *[cost(0)] * 12]
+        calls = [begins(6, [5]), *acts, *[chance(0), cost(0), likely(), cheap()] * 3]
+        calls += [judge(0, *[0, 0, 1, 1, 2, 2, 3, 3, 4, 4] * 2), judge(0, *[LARGEST] * 20)] * 8
         calls += [act(0, 1, *[LARGEST] * 20)] * (60 - len(calls))
         numbers = line(calls)
         self.assertLessEqual(len(numbers), 1500)
